@@ -1,0 +1,1 @@
+"""Icebreaking schedule with quadratic effort."""
