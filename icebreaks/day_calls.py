@@ -60,6 +60,14 @@ def thickness_between(instance, first_day, last_day):
     return [thickness, effort_of(thickness)]
 
 
+def total_growth(instance):
+    return [sum(instance.growths)]
+
+
+def summary(instance):
+    return [len(instance.growths), instance.trip_cost, instance.max_thickness, len(instance.breaks)]
+
+
 DAY_CALLS = {
     1: add_day,
     2: remove_last_day,
@@ -68,4 +76,6 @@ DAY_CALLS = {
     5: set_max_thickness,
     6: list_growth,
     7: thickness_between,
+    14: total_growth,
+    26: summary,
 }

@@ -2,12 +2,13 @@
 
 from icebreaks.day_calls import DAY_CALLS
 from icebreaks.instance import Instance
+from icebreaks.optimum_calls import OPTIMUM_CALLS
 from icebreaks.refusals import NoInstance, Refusal
 from icebreaks.schedule_calls import SCHEDULE_CALLS
 
 CREATE = 0
 
-# By call number. All 27 stand here, as each is answered ahead of a create, too.
+# By call number.
 PARAMETER_COUNTS = (
     0, 1, 0, 2, 1, 1, 0,
     2, 1, 1, 0, 0, 0, 0,
@@ -19,7 +20,9 @@ PARAMETER_COUNTS = (
 def operation_of(number):
     if number in DAY_CALLS:
         return DAY_CALLS[number]
-    return SCHEDULE_CALLS[number]
+    if number in SCHEDULE_CALLS:
+        return SCHEDULE_CALLS[number]
+    return OPTIMUM_CALLS[number]
 
 
 def run_call(instance, number, given):

@@ -21,3 +21,8 @@ def check_day(instance, day):
 def check_at_most(number, most):
     if number > most:
         raise OutOfRange()
+
+
+def check_between(number, least, most):
+    if number < least or number > most:
+        raise OutOfRange()

@@ -39,3 +39,13 @@ class BreakThereAlready(Refusal):
 class TooManyDays(Refusal):
     def __init__(self):
         Refusal.__init__(self, -28)
+
+
+class NoValidList(Refusal):
+    def __init__(self):
+        Refusal.__init__(self, -33)
+
+
+class ScheduleNotValid(Refusal):
+    def __init__(self):
+        Refusal.__init__(self, -33)

@@ -39,6 +39,11 @@ def schedule_cost(instance):
     return [effort, effort + instance.trip_cost * len(instance.breaks)]
 
 
+def thickness_at(instance, day):
+    check_day(instance, day)
+    return [thickness_before_break(instance.growths, instance.breaks, day)]
+
+
 SCHEDULE_CALLS = {
     8: add_break,
     9: remove_break,
@@ -46,4 +51,5 @@ SCHEDULE_CALLS = {
     11: thickness_per_break,
     12: is_valid_schedule,
     13: schedule_cost,
+    25: thickness_at,
 }

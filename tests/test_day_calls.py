@@ -143,5 +143,35 @@ class ThicknessBetweenTest(unittest.TestCase):
                 self.assertEqual(last(*days, ("thickness_between", first_day, last_day)), [-2])
 
 
+class TotalGrowthTest(unittest.TestCase):
+    def test_sum_of_all_days(self):
+        for growths, total in (((), 0), ((0,), 0), ((7,), 7), ((1, 2, 4), 7), ((0, 5, 0), 5), ([30] * 10, 300)):
+            with self.subTest(growths=growths):
+                self.assertEqual(last(*with_days(*growths), ("total_growth",)), [total])
+
+    def test_breaks_do_not_count(self):
+        self.assertEqual(last(*with_breaks((1, 2, 4), (0, 1)), ("total_growth",)), [7])
+
+    def test_changed_and_removed_days(self):
+        calls = with_days(1, 2, 4) + [("set_growth", 0, 9), ("total_growth",), ("remove_last_day",), ("total_growth",)]
+        self.assertEqual(run(*calls)[-4:], [[1], [15], [2], [11]])
+
+
+class SummaryTest(unittest.TestCase):
+    def test_nothing_there(self):
+        self.assertEqual(last(CREATE, ("summary",)), [0, 0, 999, 0])
+
+    def test_numbers_in_their_order(self):
+        calls = with_breaks((9, 8, 7), (2, 0)) + [("set_trip_cost", 12), ("set_max_thickness", 45), ("summary",)]
+        self.assertEqual(last(*calls), [3, 12, 45, 2])
+
+    def test_each_change_shows(self):
+        calls = with_breaks((9, 8, 7), (2, 0)) + [
+            ("remove_last_day",), ("summary",), ("remove_break", 0), ("summary",), ("set_trip_cost", 9999),
+            ("summary",), ("set_max_thickness", 0), ("summary",), CREATE, ("summary",)]
+        self.assertEqual(
+            run(*calls)[-9::2], [[2, 0, 999, 1], [2, 0, 999, 0], [2, 9999, 999, 0], [2, 9999, 0, 0], [0, 0, 999, 0]])
+
+
 if __name__ == "__main__":
     unittest.main()

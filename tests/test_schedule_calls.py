@@ -156,5 +156,32 @@ class ScheduleCostTest(unittest.TestCase):
         self.assertEqual(run(*calls, ("is_valid_schedule",), ("schedule_cost",))[-2:], [[0], [36, 37]])
 
 
+class ThicknessAtTest(unittest.TestCase):
+    def test_since_the_last_break_before(self):
+        growths = (1, 2, 4, 8, 16)
+        for breaks, thicknesses in (
+                ((), (1, 3, 7, 15, 31)), ((2,), (1, 3, 7, 8, 24)), ((3, 0), (1, 2, 6, 14, 16)),
+                ((0, 1, 2, 3, 4), growths), ((4,), (1, 3, 7, 15, 31))):
+            for day, thickness in enumerate(thicknesses):
+                with self.subTest(breaks=breaks, day=day):
+                    self.assertEqual(last(*with_breaks(growths, breaks), ("thickness_at", day)), [thickness])
+
+    def test_a_break_on_that_day_is_still_to_come(self):
+        calls = with_days(5, 6) + [("thickness_at", 1), ("add_break", 1), ("thickness_at", 1)]
+        self.assertEqual(run(*calls)[-3:], [[11], [11], [11]])
+
+    def test_a_day_without_growth(self):
+        self.assertEqual(last(*with_breaks((5, 0, 3), (0,)), ("thickness_at", 1)), [0])
+
+    def test_limit_does_not_count(self):
+        self.assertEqual(last(*with_days(5, 6), ("set_max_thickness", 0), ("thickness_at", 1)), [11])
+
+    def test_no_such_day(self):
+        self.assertEqual(last(CREATE, ("thickness_at", 0)), [-2])
+        self.assertEqual(last(*with_days(1, 2), ("thickness_at", 2)), [-2])
+        self.assertEqual(last(*with_days(1, 2), ("thickness_at", MOST)), [-2])
+        self.assertEqual(last(*with_breaks((1, 2), (1,)), ("remove_last_day",), ("thickness_at", 1)), [-2])
+
+
 if __name__ == "__main__":
     unittest.main()
